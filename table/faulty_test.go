@@ -171,6 +171,16 @@ func TestWrongDataBlocks(t *testing.T) {
 		b.Kind = kind
 		wrong[fmt.Sprint("of the kind ", kind)] = b
 	}
+	for n := 1; n <= 16; n++ {
+		b := dataOf(at, good)
+		b.Refs = indexOf(at, n).Refs
+		wrong[fmt.Sprint("with Refs: ", n)] = b
+	}
+	for _, named := range []api.Ref{at, root, ref(24, 5), ref(1, 6), ref(25, 0), ref(512, most)} {
+		b := dataOf(at, good)
+		b.Refs = []api.Ref{named}
+		wrong[fmt.Sprint("that names ", named)] = b
+	}
 	for what, b := range wrong {
 		s := shelf(t)
 		s.lay(t, b)
@@ -193,7 +203,36 @@ func TestWrongDataBlocks(t *testing.T) {
 	}
 }
 
-// P13.3: data blocks that are as said, though no Build makes them: of more than 64 pairs, or with Refs, of which the chapter says nothing where it says when pairs are there.
+// P13.3: a data block that grid has written with Refs is not as said: what asks for it tells ErrFaulty, and nothing beside it; what does not is told.
+func TestADataBlockWrittenWithRefs(t *testing.T) {
+	for _, refs := range [][]api.Ref{nil, {ref(1, 0)}, {ref(2, 0)}, slices.Repeat([]api.Ref{ref(1, 0)}, 16)} {
+		s := begin(t, 8)
+		data, e := s.g.Write(api.KindData, refs, []byte("\x01a\x01x"), 0)
+		ok(t, "Write", e)
+		root, e := s.g.Write(api.KindIndex, []api.Ref{data}, []byte("\x01a"), 0)
+		ok(t, "Write", e)
+		s.hows[0], s.hows[1] = taken, taken
+		r, what := api.Run{Root: root}, fmt.Sprint("Refs: ", refs)
+		if refs == nil {
+			a := item{key: "a", value: "x"}
+			wantGet(t, what, s.g, r, a)
+			wantAll(t, what, s.g, r, []item{a})
+			wantBetween(t, what, s.g, r, "a", "b", []item{a})
+		} else {
+			refuseGet(t, what, s.g, r, "a", api.ErrFaulty)
+			refuseGet(t, what, s.g, r, "b", api.ErrFaulty)
+			refuseAll(t, what, s.g, r, api.ErrFaulty)
+			refuseBetween(t, what, s.g, r, "a", "b", api.ErrFaulty)
+		}
+		refuseGet(t, what, s.g, r, "0", api.ErrMissing)
+		wantBetween(t, what, s.g, r, "", "a", nil)
+		wantBlocks(t, what, s.g, r, ref(2, 0), ref(1, 0))
+		s.wantCalls(t, what, r, near("a")...)
+		s.wantDrop(t, what, r)
+	}
+}
+
+// P13.3: data blocks that are as said, though no Build makes them: of more than 64 pairs.
 func TestStrangeDataBlocks(t *testing.T) {
 	root, r := ref(20, 7), api.Run{Root: ref(20, 7)}
 	var l []item
@@ -202,16 +241,12 @@ func TestStrangeDataBlocks(t *testing.T) {
 		l = append(l, item{key: fmt.Sprintf("%03d", i), gone: i%2 == 0})
 		body += l[i].bytes()
 	}
-	for _, refs := range []int{0, 1, 16} {
-		s := begin(t, 24)
-		b := indexOf(ref(1, 5), refs)
-		b.Kind, b.Body = 1, []byte(body)
-		s.lay(t, b)
-		s.lay(t, indexOf(root, 1, "000"))
-		wantAll(t, "strange", s.g, r, l)
-		wantGet(t, "strange", s.g, r, l[149])
-		s.wantCalls(t, "strange", r, near("000", "064", "065", "149")...)
-	}
+	s := begin(t, 24)
+	s.lay(t, dataOf(ref(1, 5), body))
+	s.lay(t, indexOf(root, 1, "000"))
+	wantAll(t, "strange", s.g, r, l)
+	wantGet(t, "strange", s.g, r, l[149])
+	s.wantCalls(t, "strange", r, near("000", "064", "065", "149")...)
 }
 
 // P13.3: what is missing is wanted, once, and only what was asked for: the index block by each call, the data block of a key by Get, the first one that is missing by All and Between, nothing by Blocks and Drop.

@@ -162,6 +162,11 @@ func TestTurnedWithARightSeal(t *testing.T) {
 	s.lay(t, dataOf(ref(1, 5), item{key: "a", value: "3"}.bytes()+item{key: "b", gone: true}.bytes()))
 	wantAll(t, "another body", s.g, r, []item{{key: "a", value: "3"}, {key: "b", gone: true}})
 	refuseGet(t, "another body", s.g, r, "c", api.ErrMissing)
+	named := dataOf(ref(1, 5), item{key: "a", value: "1"}.bytes()+item{key: "c", value: "2"}.bytes())
+	named.Refs = []api.Ref{ref(3, 5)}
+	s.lay(t, named)
+	refuseAll(t, "Refs", s.g, r, api.ErrFaulty)
+	s.check(t, "Refs")
 	s.lay(t, dataOf(ref(1, 6), item{key: "a", value: "3"}.bytes()))
 	refuseAll(t, "another stamp", s.g, r, api.ErrFaulty)
 	s.wanted = []api.Ref{ref(1, 5)}
@@ -268,6 +273,9 @@ func (s *deeds) block(blocks int) api.GridBlock {
 		for range len(keys) + s.next(9)/8 {
 			b.Refs = append(b.Refs, ref(1+s.next(blocks+1), s.next(3)))
 		}
+	}
+	if b.Kind == 1 && s.next(8) == 0 {
+		b.Refs = append(b.Refs, at)
 	}
 	if n := len(b.Body); s.next(8) == 0 {
 		b.Body[s.next(n)] = byte(s.next(256))

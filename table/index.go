@@ -50,7 +50,8 @@ func readData(g *grid.Grid, ref api.Ref) ([]api.Pair, api.Errno) {
 	if e != api.OK {
 		return nil, e
 	}
-	if b.Kind != api.KindData {
+	// A data block is without Refs: one that has some is not as said, however right its body is.
+	if b.Kind != api.KindData || len(b.Refs) > 0 {
 		return nil, api.ErrFaulty
 	}
 	return Unpack(b.Body)

@@ -72,7 +72,7 @@ func (s *scene) data(r api.Ref) ([]item, api.Errno) {
 		return nil, e
 	}
 	l, is := parsed(string(b.Body))
-	if b.Kind != 1 || !is {
+	if b.Kind != 1 || len(b.Refs) > 0 || !is {
 		return nil, api.ErrFaulty
 	}
 	return l, api.OK
